@@ -3,7 +3,6 @@
 import itertools
 import random
 import sys
-from functools import lru_cache
 
 
 class Raised(Exception):
@@ -30,73 +29,125 @@ class Classes(dict):
 
 
 CLASSES = Classes()
-CAUSES = {"raise": "", "from": " from sys.exc_info()[1]", "hide": " from None"}
 
 
-def python_lines(row, depth):
-    """Write a row as lines of Python, in which errors are exceptions."""
-    pad = "    " * depth
-    lines = []
-    for statement in row:
+class Record:
+    """What came of one run of a row as Python, with exceptions for errors, in which the steps of a lot fail.
+
+    `told` is what is told at last, `done` has the names of the steps that were run, and `handled` for each of them
+    the chain that was being handled, or None. `raised` and `over` have the very exceptions of the steps, `loses`
+    tells whether a `hide` or a `leave` was run.
+    """
+
+    def __init__(self, row, lot):
+        self.lot = lot
+        self.done, self.handled, self.raised, self.over = [], [], [], []
+        self.loses = False
+        self.last = None
+        try:
+            self.told = ("left",) if self.run_row(row, ()) else ("ended",)
+        except Raised as error:
+            self.last = error
+            self.told = ("error", chain_of(error))
+        for error in self.raised:
+            error.__traceback__ = None
+
+    def run_row(self, row, held):
+        """Run a row, and return True if it leaves; `held` has the errors that are being handled around it."""
+        for statement in row:
+            if self.run_statement(statement, held):
+                return True
+        return False
+
+    def run_statement(self, statement, held):
+        """Run a statement, and return True if it leaves."""
         word = statement[0]
+        if word == "guard":
+            return self.run_guard(*statement[1:], held)
+        if word in ("hide", "leave"):
+            self.loses = True
         if word == "step":
-            lines.append(f"{pad}step({statement[1]!r})")
-        elif word in CAUSES:
-            lines.append(f"{pad}raise CLASSES[{statement[1]!r}](){CAUSES[word]}")
+            self.run_step(statement[1])
+        elif word == "raise":
+            raise CLASSES[statement[1]]()
+        elif word == "from":
+            raise CLASSES[statement[1]]() from sys.exc_info()[1]
+        elif word == "hide":
+            raise CLASSES[statement[1]]() from None
         elif word == "again":
-            lines.append(f"{pad}raise")
-        elif word == "leave":
-            lines.append(f"{pad}return 'left'")
-        else:
-            _, body, handlers, last = statement
-            lines.append(f"{pad}try:")
-            lines.extend(python_lines(body, depth + 1))
-            for names, inner in handlers:
-                caught = "Raised" if names is None else "(" + "".join(f"CLASSES[{n!r}], " for n in names) + ")"
-                lines.append(f"{pad}except {caught}:")
-                lines.extend(python_lines(inner, depth + 1))
-            lines.append(f"{pad}finally:")
-            lines.extend(python_lines(last, depth + 1))
-    return lines + [f"{pad}pass"]
+            raise
+        return word == "leave"
+
+    def run_step(self, name):
+        """Run a step."""
+        self.done.append(name)
+        self.handled.append(chain_of(sys.exc_info()[1]) or None)
+        if name in self.lot:
+            self.raised.append(CLASSES[name]())
+            raise self.raised[-1]
+
+    def run_guard(self, body, handlers, last, held):
+        """Run a guard, and return True if it leaves."""
+        try:
+            return self.run_row(body, held)
+        except Raised as error:
+            for names, row in handlers:
+                if names is None or error.told_as in names:
+                    if self.run_row(row, (*held, error)):
+                        return True
+                    self.end_handler((*held, error))
+                    return False
+            raise
+        finally:
+            if self.run_row(last, (*held, sys.exc_info()[1])):
+                return True
+
+    def end_handler(self, held):
+        """Note which errors are over as the row of a handler ends; `held` has its error behind all those around."""
+        still = [error for each in held[:-1] for _, error in links_of(each)]
+        self.over.extend(error for _, error in links_of(held[-1]) if not is_one_of(error, still))
+
+    def is_over(self, error):
+        """Tell whether an error is over."""
+        return is_one_of(error, self.over)
+
+    def is_told(self, error):
+        """Tell whether this very error is one of the chain that is told."""
+        return is_one_of(error, [other for _, other in links_of(self.last)])
+
+    def hidden(self):
+        """The steps that are hidden, ascending, each once."""
+        lost = [error for error in self.raised if not self.is_over(error) and not self.is_told(error)]
+        return sorted({error.told_as for error in lost})
 
 
-@lru_cache(maxsize=None)
-def compiled(text):
-    """Compile a text once."""
-    return compile(text, "<row>", "exec")
+def is_one_of(error, errors):
+    """Tell whether an error is this very one of some errors."""
+    return any(error is other for other in errors)
 
 
 def observe(row, lot):
     """Run a row as Python; return what is told at last, and the names of the steps that were run."""
-    text = "\n".join(["def main():"] + python_lines(row, 1) + ["    return 'ended'"])
-    done = []
-
-    def step(name):
-        done.append(name)
-        if name in lot:
-            raise CLASSES[name]()
-
-    space = {"CLASSES": CLASSES, "Raised": Raised, "step": step, "sys": sys}
-    exec(compiled(text), space)
-    try:
-        out = (space["main"](),)
-    except Raised as error:
-        out = ("error", chain_of(error))
-    return out, done
+    record = Record(row, lot)
+    return record.told, record.done
 
 
 def chain_of(error):
-    """The chain that Python itself would print of an exception, the last one first."""
-    chain = [("told", error.told_as)]
-    while True:
+    """The chain of words and names that Python itself would print of an exception, the last one first."""
+    return [(word, each.told_as) for word, each in links_of(error)]
+
+
+def links_of(error):
+    """The words and exceptions of the chain of an exception, the last one first; none without an exception."""
+    links = []
+    word = "told"
+    while error is not None:
+        links.append((word, error))
         if error.__cause__ is not None:
-            error = error.__cause__
-            chain.append(("from", error.told_as))
-        elif error.__context__ is not None and not error.__suppress_context__:
-            error = error.__context__
-            chain.append(("during", error.told_as))
+            word, error = "from", error.__cause__
         else:
-            return chain
+            word, error = "during", None if error.__suppress_context__ else error.__context__
+    return links
 
 
 def told(row, lot):
@@ -145,6 +196,36 @@ def first_unlike(one, other):
     return None
 
 
+def hidden_by(row, lot):
+    """The steps that a lot hides, ascending."""
+    return Record(row, lot).hidden()
+
+
+def hides_nothing(row):
+    """Tell whether no lot hides a step."""
+    return not any(hidden_by(row, lot) for lot in lots(steps_of(row)))
+
+
+def with_changes(row, places):
+    """A row in which the hides at some places are raises, and the leaves at others are taken out."""
+    for place in sorted(places, reverse=True):
+        row = changed(row, place, lambda inner, at: (
+            inner[:at] + [("raise", *inner[at][1:])] * (inner[at][0] == "hide") + inner[at + 1:]))
+    return row
+
+
+def helpful_changes(row):
+    """All sets of changes by which no lot hides a step, by their number, then as lists; found by trying each one."""
+    places = [place for place, statement in placed(row) if statement[0] in ("hide", "leave")]
+    every = [list(some) for many in range(len(places) + 1) for some in itertools.combinations(sorted(places), many)]
+    return [some for some in every if hides_nothing(with_changes(row, some))]
+
+
+def least_of(sets):
+    """Those of some sets, each a list, that have no other one of them within them."""
+    return [one for one in sets if not any(other != one and all(part in one for part in other) for other in sets)]
+
+
 def changed(row, place, change):
     """A row in which `change` stands in for the row from which a place takes its last index."""
     at = place[0]
@@ -175,9 +256,10 @@ def swapped(row, place):
 class Builder:
     """Builds rows by a fixed seed."""
 
-    def __init__(self, seed, letters="abcd", most=12, depth=3):
+    def __init__(self, seed, letters="abcd", most=12, depth=3, words=()):
         self.rng = random.Random(seed)
         self.letters = letters
+        self.words = list(words)
         self.left = self.rng.randint(most // 3, most)
         self.depth = depth
 
@@ -192,7 +274,7 @@ class Builder:
 
     def statement(self, handled, depth):
         """A statement of any kind that may stand here."""
-        words = ["step"] * 8 + ["raise", "hide", "leave"]
+        words = ["step"] * 8 + ["raise", "hide", "leave"] + self.words
         if handled:
             words += ["from", "from", "again", "again"]
         if depth < self.depth:
@@ -218,6 +300,22 @@ def built_rows(many, first=0, **options):
     """Rows of programs, always the same ones; empty ones are left out."""
     rows = (Builder(seed, **options).row() for seed in itertools.count(first))
     return list(itertools.islice((row for row in rows if row), many))
+
+
+def lossy_row(seed, **options):
+    """A row of a guard that often loses an error, and others behind it; it is no greater than programs may be."""
+    builder = Builder(seed, **options)
+    body = [("step", builder.rng.choice(builder.letters))] + builder.row(False, 1)
+    handlers = [(None, builder.row(True, 1))] if builder.rng.random() < 0.6 else []
+    return [guard(body, handlers, builder.row(False, 1))] + builder.row()
+
+
+def lossy_rows(many):
+    """Rows of programs in which hides and leaves are frequent, always the same ones."""
+    kinds = [{"words": ["hide", "leave"] * 3}, {"words": ["hide", "leave"]},
+             {"letters": "ab", "most": 11, "depth": 4, "words": ["hide", "hide", "leave"] * 2},
+             {"letters": "abcdefgh", "most": 11, "depth": 4, "words": ["hide", "leave"] * 2}]
+    return [lossy_row(seed, **kinds[seed % len(kinds)]) for seed in range(many)]
 
 
 def great_row():

@@ -36,6 +36,36 @@ COMPARE = '''
 [True, False, True, True]
 '''
 
+HIDDEN = '''
+>>> from toldatlast.hidden import chains, first_hidden, hidden_steps, mends, with_changes
+>>> from toldatlast.programs import Program
+>>> hides = Program([("guard", [("step", "a")], [(None, [("hide", "x")])], [])])
+>>> leaves = Program([("guard", [("step", "a")], [], [("step", "b"), ("leave",)])])
+>>> calm = Program([("guard", [("step", "a")], [(None, [])], []), ("step", "b")])
+>>> [first_hidden(hides, "a"), chains(hides), hidden_steps(leaves), first_hidden(leaves, "a"), hidden_steps(calm), mends(hides), mends(leaves), mends(calm)]
+[['a'], [[('told', 'x')]], ['a'], ['a'], [], [[[0, 2, 0]]], [[[0, 1, 1]]], [[]]]
+>>> [with_changes(hides, [[0, 2, 0]]).tells(["a"]), with_changes(leaves, [[0, 1, 1]]).row]
+[('error', [('told', 'x'), ('during', 'a')]), [('guard', [('step', 'a')], [], [('step', 'b')])]]
+'''
+
+RUNNERS = '''
+>>> from toldatlast.programs import Program
+>>> from toldatlast.runners import CarefulRunner, Runner
+>>> program = Program([("guard", [("step", "load")], [(["load"], [("from", "broken")])], [("step", "close")]), ("step", "show")])
+>>> runner = Runner(program)
+>>> [runner.asks, runner(True), runner.asks, runner.handled(), runner(False), runner.told, runner.lot, runner.done, runner.undo(), runner.asks, len(runner)]
+['load', None, 'close', [('told', 'broken'), ('from', 'load')], None, ('error', [('told', 'broken'), ('from', 'load')]), ['load'], ['load', 'close'], None, 'close', 1]
+'''
+
+TEXTS = '''
+>>> from toldatlast.programs import Program
+>>> from toldatlast.readings import read_program, read_told
+>>> from toldatlast.texts import show_program, show_told
+>>> program = Program([("guard", [("step", "a"), ("raise", "b")], [(["a", "c"], [("again",)]), (None, [])], [("leave",)]), ("step", "d")])
+>>> [show_program(program), read_program(show_program(program)) == program, show_told(("error", [("told", "x"), ("during", "a")])), read_told("told x from a during b"), read_program("") == Program([])]
+['guard {step a; raise b} on a,c {again} on * {} last {leave}; step d', True, 'told x during a', ('error', [('told', 'x'), ('from', 'a'), ('during', 'b')]), True]
+'''
+
 
 class ExamplesTest(unittest.TestCase):
     def check(self, text):
@@ -53,6 +83,15 @@ class ExamplesTest(unittest.TestCase):
 
     def test_compare(self):
         self.check(COMPARE)
+
+    def test_hidden(self):
+        self.check(HIDDEN)
+
+    def test_runners(self):
+        self.check(RUNNERS)
+
+    def test_texts_and_readings(self):
+        self.check(TEXTS)
 
 
 if __name__ == "__main__":

@@ -7,14 +7,14 @@ import pathlib
 import unittest
 
 import toldatlast
-from toldatlast import compare, errors, programs, trees
+from toldatlast import compare, errors, hidden, programs, readings, runners, texts, trees
 
 FOLDER = pathlib.Path(toldatlast.__file__).parent
 FILES = sorted(FOLDER.glob("*.py"))
 LIBRARY = {"heapq", "math", "itertools", "collections", "__future__"}
 BUILTINS = {
     "len", "range", "enumerate", "zip", "min", "max", "sum", "abs", "sorted", "reversed", "int", "str", "bool", "list",
-    "tuple", "dict", "set", "isinstance", "ord", "repr", "any", "all", "divmod", "ValueError", "KeyError",
+    "tuple", "dict", "set", "isinstance", "ord", "repr", "any", "all", "divmod", "ValueError", "KeyError", "super",
 }
 METHODS = {"append", "extend", "get", "copy", "pop", "index", "count", "items", "keys", "values", "join", "split",
            "startswith", "endswith", "partition", "strip", "find", "insert", "remove", "replace"}
@@ -26,10 +26,22 @@ INTERFACE = {
             "leaves": ["told"]},
     compare: {"exchangeable": ["one", "other"], "alike": ["one", "other"], "first_unlike": ["one", "other"],
               "needless": ["program"], "may_change_places": ["program", "place"], "minded": ["program"]},
+    hidden: {"first_hidden": ["program", "name"], "hidden_steps": ["program"], "chains": ["program"],
+             "mends": ["program"], "with_changes": ["program", "places"]},
+    runners: {"Runner": ["program"], "CarefulRunner": ["program"]},
+    texts: {"show_program": ["program"], "show_told": ["told"]},
+    readings: {"read_program": ["text"], "read_told": ["text"]},
     errors: {"TellError": ["value"]},
 }
-METHODS_OF_PROGRAM = {"tells": ["self", "lot"], "run": ["self", "lot"], "at": ["self", "place"],
-                      "without": ["self", "place"], "__len__": ["self"], "__eq__": ["self", "other"]}
+METHODS_OF = {
+    programs.Program: {"tells": ["self", "lot"], "run": ["self", "lot"], "at": ["self", "place"],
+                       "without": ["self", "place"], "__len__": ["self"], "__eq__": ["self", "other"]},
+    runners.Runner: {"__init__": ["self", "program"], "__call__": ["self", "fails"], "handled": ["self"],
+                     "undo": ["self"], "__len__": ["self"], "__eq__": ["self", "other"]},
+    runners.CarefulRunner: {"__init__": ["self", "program"], "__call__": ["self", "fails"],
+                            "__eq__": ["self", "other"]},
+}
+PROPERTIES_OF = {programs.Program: ["row", "steps", "names"], runners.Runner: ["asks", "told", "lot", "done"]}
 
 
 class LanguageTest(unittest.TestCase):
@@ -63,6 +75,13 @@ class LanguageTest(unittest.TestCase):
             if isinstance(node, ast.FunctionDef):
                 self.assertLessEqual({ast.unparse(each) for each in node.decorator_list}, {"property"})
 
+    def test_attributes_have_names_of_their_own(self):
+        taken = {name for names in PROPERTIES_OF.values() for name in names}
+        methods = {node.name for _, node in self.nodes() if isinstance(node, ast.FunctionDef)}
+        for name, node in self.nodes():
+            if isinstance(node, ast.Attribute) and isinstance(node.ctx, ast.Store):
+                self.assertNotIn(node.attr, taken | methods, name)
+
     def test_imports(self):
         for name, node in self.nodes():
             self.assertNotIsInstance(node, ast.Import, name)
@@ -92,10 +111,12 @@ class InterfaceTest(unittest.TestCase):
                 self.assertEqual(list(inspect.signature(found).parameters), arguments)
 
     def test_the_methods_stand_in_the_class(self):
-        for name, arguments in METHODS_OF_PROGRAM.items():
-            self.assertEqual(list(inspect.signature(vars(programs.Program)[name]).parameters), arguments)
-        for name in ["row", "steps", "names"]:
-            self.assertIsInstance(vars(programs.Program)[name], property)
+        for made, methods in METHODS_OF.items():
+            for name, arguments in methods.items():
+                self.assertEqual(list(inspect.signature(vars(made)[name]).parameters), arguments)
+        for made, names in PROPERTIES_OF.items():
+            for name in names:
+                self.assertIsInstance(vars(made)[name], property)
 
 
 if __name__ == "__main__":

@@ -1,10 +1,9 @@
 """Comparisons: which programs and rows tell the same at last for all lots, and which statements matter."""
 
-from itertools import combinations
-
 from toldatlast.errors import UnknownPlace
 from toldatlast.programs import Program
 from toldatlast.rows import all_places, check_row, row_around, row_names
+from toldatlast.runs import NO_STEP, all_choices
 from toldatlast.trees import ordered_row_tree, ordered_tree, walk
 
 # No row can have this name, so it stands for all names that rows do not have.
@@ -23,7 +22,7 @@ def alike_handling(one, other, name):
     """Tell whether two rows do the same for all lots while an error with a name is being handled."""
     # A row knows just the name of what is being handled. The second link cannot come from a row, so it shows
     # whether what a row raises has the handled chain behind it, or is it, or only looks like it.
-    handled = (("told", name), ("during", ELSEWHERE))
+    handled = (("told", name, NO_STEP), ("during", ELSEWHERE, NO_STEP))
     return ordered_row_tree(one, handled) == ordered_row_tree(other, handled)
 
 
@@ -36,15 +35,10 @@ def first_unlike(one, other):
     """Return the first lot for which two programs tell something else, None if there is none."""
     told_by_one = ordered_tree(one)
     told_by_other = ordered_tree(other)
-    for lot in all_lots(sorted(set(one.steps + other.steps))):
+    for lot in all_choices(sorted(set(one.steps + other.steps))):
         if walk(told_by_one, lot) != walk(told_by_other, lot):
             return lot
     return None
-
-
-def all_lots(steps):
-    """Return all lots of ascending steps, by their number of names, then as ascending lists."""
-    return [list(lot) for size in range(len(steps) + 1) for lot in combinations(steps, size)]
 
 
 def needless(program):

@@ -2,7 +2,7 @@
 
 from toldatlast.errors import UnknownPlace, UnknownStep
 from toldatlast.rows import all_statements, check_row, copied_row, copied_statement, row_around, row_names, row_steps
-from toldatlast.runs import Run, told_anew
+from toldatlast.runs import run_of_lot, told_anew
 
 
 class Program:
@@ -35,7 +35,7 @@ class Program:
 
     def run(self, lot):
         """Return the names of the steps that are run if those of a lot fail, as often as they are run."""
-        return self._run_with(lot).done
+        return self._run_with(lot).ran
 
     def at(self, place):
         """Return the statement at a place."""
@@ -64,4 +64,4 @@ class Program:
         for name in lot:
             if name not in self._steps:
                 raise UnknownStep(name)
-        return Run(self._row, None, {step: step in lot for step in self._steps})
+        return run_of_lot(self._row, self._steps, lot)

@@ -45,7 +45,14 @@ def walk(told, lot):
     """Return what is told at the end of a tree to which a lot leads."""
     while told[0] == "ask":
         told = told[2] if told[1] in lot else told[3]
-    return told_anew(told[1])
+    return copied_told(told[1])
+
+
+def copied_told(told):
+    """Return a copy of what is told at last that shares no list with it."""
+    if told[0] == "error":
+        return ("error", list(told[1]))
+    return told
 
 
 def judge(program, told):
